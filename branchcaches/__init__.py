@@ -1,0 +1,1 @@
+"""Caches by branch: branchcaches.caches.answers(calls) is the way in."""
