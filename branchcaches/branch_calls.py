@@ -1,6 +1,6 @@
-"""The calls about the house and its branches: begins, opens, closes, share."""
+"""The calls about the house and its branches: begins, opens, closes, share, state."""
 
-from branchcaches.house_state import Branch, counted_contents, entries_of_branch
+from branchcaches.house_state import Branch, counted_contents, entries_of_branch, sizes_together
 from branchcaches.refusals import IS_BRANCH_ZERO, IS_THERE, NO_BRANCH, OUT_OF_BOUNDS, TOO_MANY
 
 HIGHEST_ROOM = 1000000
@@ -38,8 +38,7 @@ def answer_closes(house, number):
         if branch.parent == number:
             branch.parent = closed.parent
     going = entries_of_branch(house.entries, number)
-    for entry in going:
-        house.drop_entry(entry)
+    house.drop_entries(going)
     return counted_contents(going)
 
 
@@ -51,3 +50,11 @@ def answer_share(house, number, part):
         return [OUT_OF_BOUNDS]
     branch.share = part
     return [0]
+
+
+def answer_state(house):
+    answer = [len(house.branches)]
+    for number, branch in house.branches.items():
+        size = sizes_together(entries_of_branch(house.entries, number))
+        answer.extend([number, branch.parent, branch.share, size])
+    return answer

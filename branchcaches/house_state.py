@@ -37,6 +37,13 @@ class House:
     def has_branch(self, number):
         return number in self.branches
 
+    def line_of(self, number):
+        line = [number]
+        while number != 0:
+            number = self.branches[number].parent
+            line.append(number)
+        return line
+
     def shares_together(self):
         return sum([branch.share for branch in self.branches.values()])
 
@@ -50,8 +57,9 @@ class House:
         self.mark_used(entry)
         self.entries.append(entry)
 
-    def drop_entry(self, gone):
-        self.entries = entries_without(self.entries, gone)
+    def drop_entries(self, going):
+        for gone in going:
+            self.entries = entries_without(self.entries, gone)
 
 
 def entries_of_branch(entries, number):

@@ -1,14 +1,15 @@
-"""Which rows of bytes are keys."""
+"""Which rows of bytes are keys, and which may be asked for as beginnings."""
 
 LONGEST_KEY = 24
 
 
 def is_key(row):
-    return 1 <= len(row) <= LONGEST_KEY and has_key_bytes(row)
+    return len(row) > 0 and is_beginning(row)
 
 
-def has_key_bytes(row):
-    return all([is_key_byte(byte) for byte in row])
+# Unlike a key a beginning may be empty: every key begins so.
+def is_beginning(row):
+    return len(row) <= LONGEST_KEY and all([is_key_byte(byte) for byte in row])
 
 
 # Hyphen, point and stroke (45 to 47) stand just ahead of the digits.

@@ -7,3 +7,4 @@ IS_THERE = -4
 NO_KEY = -5
 NO_ROOM = -6
 TOO_MANY = -7
+NOTHING_FOUND = -8

@@ -25,9 +25,37 @@ def share(branch, part):
     return [3, 2, branch, part, 0]
 
 
+def row_of(key):
+    return [ord(sign) for sign in key] if isinstance(key, str) else list(key)
+
+
+def with_length(row):
+    return [len(row)] + row
+
+
 def save(branch, size, content, key):
-    row = [ord(sign) for sign in key] if isinstance(key, str) else list(key)
-    return [4, 3, branch, size, content, 1, len(row)] + row
+    return [4, 3, branch, size, content, 1] + with_length(row_of(key))
+
+
+def find(branch, key, *beginnings):
+    rows = [row_of(key)] + [row_of(beginning) for beginning in beginnings]
+    return [5, 1, branch, len(rows)] + joined([with_length(row) for row in rows])
+
+
+def would(branch, size):
+    return [6, 2, branch, size, 0]
+
+
+def pass_days(days):
+    return [7, 1, days, 0]
+
+
+def list_of(branch):
+    return [8, 1, branch, 0]
+
+
+def state():
+    return [9, 0, 0]
 
 
 def joined(calls):
@@ -64,18 +92,26 @@ def all_of(house):
     return (house.room, house.life, house.day, house.uses, branches, entries)
 
 
+def found(way, branch, content, size, key):
+    """What find answers."""
+    return [way, branch, content, size] + row_of(key)
+
+
 class CallTest(unittest.TestCase):
     def check(self, calls, expected):
         self.assertEqual(parted(answers(joined(calls))), expected)
 
     def check_last(self, calls, expected):
         """The last call's answer; no call ahead of it may have been refused."""
-        found = parted(answers(joined(calls)))
-        for answer in found[:-1]:
-            self.assertGreaterEqual(answer[0], 0, found)
-        self.assertEqual(found[-1], expected)
+        given = parted(answers(joined(calls)))
+        for answer in given[:-1]:
+            self.assertGreaterEqual(answer[0], 0, given)
+        self.assertEqual(given[-1], expected)
 
     def check_refused(self, setup, call, refusal):
         """The call is refused with just that number, and all is as it was."""
-        self.check_last(setup + [call], [refusal])
+        self.check_changes_nothing(setup, call, [refusal])
+
+    def check_changes_nothing(self, setup, call, expected):
+        self.check_last(setup + [call], expected)
         self.assertEqual(all_of(house_after(setup + [call])), all_of(house_after(setup)))

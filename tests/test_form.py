@@ -121,6 +121,84 @@ class Code(unittest.TestCase):
             self.assertIn(node.attr, own + stored + METHODS, place)
 
 
+class Shape(unittest.TestCase):
+    def test_top_of_a_file(self):
+        kinds = (ast.ImportFrom, ast.FunctionDef, ast.ClassDef, ast.Assign)
+        for path, source in SOURCES.items():
+            body = ast.parse(source).body
+            self.assertIsInstance(body[0], ast.Expr, path.name)
+            bound = [name for node in body[1:] for name in top_names(node)]
+            self.assertEqual(len(bound), len(set(bound)), path.name)
+            for node in body[1:]:
+                self.assertIsInstance(node, kinds, path.name)
+                if isinstance(node, ast.Assign):
+                    ast.literal_eval(node.value)
+
+    def test_plain_parameters(self):
+        for place, node in nodes_of(ast.arguments):
+            self.assertEqual((node.vararg, node.kwarg, node.kwonlyargs, node.posonlyargs), (None, None, [], []), place)
+        for place, node in nodes_of(ast.arg):
+            self.assertIsNone(node.annotation, place)
+        for place, node in nodes_of(ast.FunctionDef):
+            self.assertIsNone(node.returns, place)
+
+    def test_plain_classes(self):
+        for place, node in nodes_of(ast.ClassDef):
+            for part in node.body:
+                self.assertIsInstance(part, ast.FunctionDef, place)
+            self.assertEqual(len(node.body), len({part.name for part in node.body}), place)
+
+    def test_no_local_is_called_like_a_class_or_an_import(self):
+        for path, source in SOURCES.items():
+            tree = ast.parse(source)
+            top = [name for node in tree.body if not isinstance(node, ast.Assign) for name in top_names(node)]
+            for node in ast.walk(tree):
+                if isinstance(node, ast.arg):
+                    self.assertNotIn(node.arg, top, path.name)
+                if isinstance(node, ast.Name) and isinstance(node.ctx, ast.Store):
+                    self.assertNotIn(node.id, top, path.name)
+
+    def test_keywords(self):
+        allowed = {"sorted": ["key", "reverse"], "min": ["key", "default"], "max": ["key", "default"],
+                   "sum": ["start"], "enumerate": ["start"], "zip": ["strict"]}
+        for place, node in nodes_of(ast.Call):
+            for keyword in node.keywords:
+                self.assertIn(keyword.arg, allowed.get(getattr(node.func, "id", ""), []), place)
+
+    def test_walked_at_once(self):
+        for path, source in SOURCES.items():
+            tree = ast.parse(source)
+            walked = [id(node.iter) for node in ast.walk(tree) if isinstance(node, (ast.For, ast.comprehension))]
+            for node in ast.walk(tree):
+                if isinstance(node, ast.Call) and called(node) in WALKED:
+                    self.assertIn(id(node), walked, path.name)
+
+    def test_no_sets(self):
+        for place, node in nodes_of(ast.Name):
+            self.assertNotIn(node.id, ["set", "frozenset"], place)
+
+    def test_values_of_objects_are_not_called_like_pythons_methods(self):
+        pythons = {name for kind in (str, int, list, dict, set, bytes, tuple) for name in dir(kind)}
+        for place, node in nodes_of(ast.Attribute):
+            if isinstance(node.ctx, ast.Store):
+                self.assertNotIn(node.attr, pythons, place)
+
+
+WALKED = "zip enumerate reversed range items keys values".split()
+
+
+def called(call):
+    return call.func.attr if isinstance(call.func, ast.Attribute) else call.func.id
+
+
+def top_names(node):
+    if isinstance(node, ast.ImportFrom):
+        return [alias.name for alias in node.names]
+    if isinstance(node, ast.Assign):
+        return [target.id for target in node.targets]
+    return [node.name] if isinstance(node, (ast.FunctionDef, ast.ClassDef)) else []
+
+
 class Imports(unittest.TestCase):
     def test_only_own_files_by_full_name(self):
         for place, node in nodes_of(ast.ImportFrom):
@@ -134,7 +212,9 @@ class Imports(unittest.TestCase):
 
     def test_no_two_files_draw_from_one_another(self):
         draws = {
-            path.stem: [node.module.split(".")[1] for node in ast.parse(source).body if isinstance(node, ast.ImportFrom)]
+            path.stem: [
+                node.module.split(".")[1] for node in ast.parse(source).body if isinstance(node, ast.ImportFrom)
+            ]
             for path, source in SOURCES.items()
         }
         while draws:
